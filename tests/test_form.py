@@ -21,6 +21,7 @@ OWN_NAMES = set(
     "repr any all divmod Exception ValueError TypeError KeyError IndexError LookupError ZeroDivisionError "
     "ArithmeticError OverflowError RuntimeError NotImplementedError AttributeError StopIteration".split()
 )
+CHANGES = "append clear extend insert pop remove reverse setdefault update".split()
 METHODS = set(
     "append clear copy count endswith extend find get index insert isalnum isalpha isdigit islower isspace isupper "
     "items join keys ljust lower lstrip partition pop remove replace reverse rfind rjust rpartition rsplit rstrip "
@@ -105,9 +106,49 @@ def top_faults(tree):
         plain = isinstance(node, ast.Assign) and is_plain(node.value)
         if not (docstring or plain or isinstance(node, (ast.ImportFrom, ast.FunctionDef, ast.ClassDef))):
             faults.append(f"L3 row {node.lineno}")
+        # A list or dict at a file's top could be changed; tuples can't.
+        if isinstance(node, ast.Assign) and any(isinstance(part, (ast.List, ast.Dict)) for part in ast.walk(node)):
+            faults.append(f"L15 row {node.lineno}")
     names = bound_names(tree)
     if len(set(names)) < len(names):
         faults.append("L15 a name bound twice")
+    return faults
+
+
+def changed_names(node):
+    """The names whose values a node changes, by a method or by an index."""
+    names = []
+    for part in ast.walk(node):
+        if isinstance(part, ast.Attribute) and part.attr in CHANGES and isinstance(part.value, ast.Name):
+            names.append(part.value.id)
+        if isinstance(part, ast.Subscript) and isinstance(part.ctx, ast.Store) and isinstance(part.value, ast.Name):
+            names.append(part.value.id)
+    return names
+
+
+def walk_faults(node):
+    """Faults of a loop that changes what it walks."""
+    if not isinstance(node, ast.For):
+        return []
+    walked = node.iter
+    while isinstance(walked, ast.Call) and (called(walked) in WALKED or isinstance(walked.func, ast.Attribute)):
+        walked = walked.args[0] if called(walked) in WALKED else walked.func.value
+    changed = [name for part in node.body for name in changed_names(part)]
+    return ["L23 changed while walked"] if isinstance(walked, ast.Name) and walked.id in changed else []
+
+
+def class_faults(nodes, classes):
+    """Faults of where the names of classes stand, and of what stands in a class."""
+    faults = []
+    for node in nodes:
+        if isinstance(node, ast.Name) and node.id in classes:
+            parent = node.parent
+            made = isinstance(parent, ast.Call) and (parent.func == node or called(parent) == "isinstance")
+            if not (made or isinstance(parent, (ast.ClassDef, ast.ExceptHandler))):
+                faults.append(f"L18 {node.id}")
+        # No class here needs a method, so what L26 and L28 ask of them is kept by having none.
+        if isinstance(node, ast.FunctionDef) and isinstance(node.parent, ast.ClassDef):
+            faults.append(f"L28 {node.name}")
     return faults
 
 
@@ -242,8 +283,11 @@ def faults_of(source, others):
     nodes = with_parents(tree)
     methods = METHODS | {node.name for node in nodes if isinstance(node, ast.FunctionDef)}
     faults = text_faults(source) + top_faults(tree) + name_faults(tree, nodes) + import_faults(tree, nodes, others)
+    faults += class_faults(nodes, [name for names in others.values() for name in names if name[0].isupper()
+                                   and not name.isupper()])
     for node in nodes[1:]:
         faults += definition_faults(node) + statement_faults(node) + value_faults(node) + call_faults(node, methods)
+        faults += walk_faults(node)
     return faults
 
 
@@ -313,6 +357,21 @@ class FormTest(unittest.TestCase):
         for rule, source in wrong.items():
             with self.subTest(rule=rule):
                 self.assertIn(rule, [fault.split(" ")[0] for fault in faults_of(source, {})])
+
+    def test_more_faults_are_found(self):
+        wrong = (
+            ("L15", "KEPT = [1]\n"),
+            ("L15", "KEPT = ({1: 2},)\n"),
+            ("L18", "def f(a):\n    return [a, Lost]\n"),
+            ("L23", "def f(a):\n    for b in a:\n        a.append(b)\n"),
+            ("L23", "def f(a):\n    for b, c in enumerate(a):\n        a[b] = c\n"),
+            ("L23", "def f(a):\n    for b, c in a.items():\n        a.pop(b)\n"),
+            ("L28", "class A:\n    def __len__(self):\n        return 0\n"),
+        )
+        for rule, source in wrong:
+            with self.subTest(rule=rule, source=source):
+                told = faults_of(source, {"errors": ["Lost"]})
+                self.assertIn(rule, [fault.split(" ")[0] for fault in told])
 
 
 if __name__ == "__main__":
