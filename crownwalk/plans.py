@@ -88,13 +88,13 @@ def shows(game, hand, plan, paper):
     return all([shown_at(game, hand, plan, paper, crowns, place) for place in plan])
 
 
-def shown_at(game, hand, plan, paper, crowns, place):
+def shown_at(game, hand, plan, numbers, crowns, place):
     """True where the paper's numbers fall as they must at each step from a held place."""
     own = game[place][1]
     for way in followed(game, hand, plan, place):
-        for number, crown in enumerate(crowns):
-            # One is added on the left where the number must not only not rise, but fall.
+        for at, crown in enumerate(crowns):
+            # Where the crown is the place's own the number must fall by one at least; else it must only not rise.
             fall = 1 if crown == own else 0
-            if crown >= own and paper[way][number] + fall > paper[place][number]:
+            if crown >= own and numbers[way][at] + fall > numbers[place][at]:
                 return False
     return True

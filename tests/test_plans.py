@@ -258,8 +258,10 @@ class PaperTest(unittest.TestCase):
 
     def check_lost(self, game, hand, plan):
         for asked, owner in ((game, hand), (exchanged(game), 1 - hand)):
+            before = dict(plan)
             with self.assertRaises(Lost) as caught:
                 paper(asked, owner, plan)
+            self.assertEqual(plan, before)
             self.assertIs(type(caught.exception), Lost)
             self.assertIsInstance(caught.exception, WalkError)
             self.assertIsInstance(caught.exception, ValueError)
